@@ -1,0 +1,1 @@
+"""Gazette: validity of legislative records with retroactive annulment, cure and ratification."""

@@ -1,0 +1,230 @@
+"""The rules of LANGUAGE.md that can be read off the code of the package (not all of them can)."""
+
+import ast
+import builtins
+import re
+import unittest
+import warnings
+from pathlib import Path
+
+PACKAGE = Path(__file__).resolve().parent.parent / "gazette"
+
+BUILTINS = set(
+    "len range enumerate zip min max sum abs sorted reversed int str bool bytes list tuple dict set frozenset"
+    " isinstance ord repr any all divmod pow iter next ValueError NotImplemented super".split()
+)
+METHODS = set(
+    "append clear copy count endswith extend find get index insert isalnum isalpha isdigit islower isspace isupper"
+    " items join keys ljust lower lstrip partition pop remove replace reverse rfind rjust rpartition rsplit rstrip"
+    " setdefault split splitlines startswith strip update upper values zfill bit_length __init__ add discard".split()
+)
+BARRED_NAMES = set(
+    "register mro elements open input law version_info with_traceback add_note attrgetter breakpoint builtins compile"
+    " copyright credits delattr dir eval exec exit gc getattr globals hasattr help id importlib license locals"
+    " methodcaller os quit setattr super type vars sys".split()
+)
+BARRED_WORDS = set(
+    "typing typing_extensions enum Enum IntEnum StrEnum Flag IntFlag Generic Protocol ABC ABCMeta namedtuple"
+    " NamedTuple TypedDict TYPE_CHECKING abstractmethod _wall _WallAttr".split()
+)
+LIBRARY = {"heapq", "math", "itertools", "collections"}
+NOT_USED = (
+    ast.AsyncFunctionDef, ast.AsyncFor, ast.AsyncWith, ast.Await, ast.Import, ast.Div, ast.MatMult, ast.Global,
+    ast.NamedExpr, ast.AnnAssign,
+)
+VIEWS = {"range", "zip", "enumerate", "reversed", "items", "keys", "values"}
+TAKERS = {"list", "tuple", "dict", "sorted", "sum", "any", "all", "enumerate", "zip", "min", "max", "len", "reversed"}
+
+
+def sources():
+    return {path.stem: path.read_text() for path in sorted(PACKAGE.glob("*.py"))}
+
+
+def parsed(source):
+    """The tree of a file, with the node around each node as its attribute `around`."""
+    tree = ast.parse(source)
+    for node in ast.walk(tree):
+        for child in ast.iter_child_nodes(node):
+            child.around = node
+    return tree
+
+
+def called(node):
+    """The name of what a call calls, or None."""
+    if not isinstance(node, ast.Call):
+        return None
+    return getattr(node.func, "id", getattr(node.func, "attr", None))
+
+
+def bound_names(tree):
+    """All names that a file binds, apart from attributes."""
+    for node in ast.walk(tree):
+        if isinstance(node, (ast.FunctionDef, ast.ClassDef)):
+            yield node.name
+        elif isinstance(node, ast.arg):
+            yield node.arg
+        elif isinstance(node, ast.Name) and not isinstance(node.ctx, ast.Load):
+            yield node.id
+        elif isinstance(node, ast.ExceptHandler) and node.name:
+            yield node.name
+        elif isinstance(node, ast.ImportFrom):
+            yield from [alias.asname or alias.name for alias in node.names]
+
+
+def defined(tree):
+    """The names that a file defines itself at module level."""
+    found = []
+    for node in tree.body:
+        if isinstance(node, (ast.FunctionDef, ast.ClassDef)):
+            found.append(node.name)
+        elif isinstance(node, ast.Assign):
+            found.append(node.targets[0].id)
+    return found
+
+
+def docstrings(tree):
+    kinds = (ast.Module, ast.FunctionDef, ast.ClassDef)
+    bodies = [node.body for node in ast.walk(tree) if isinstance(node, kinds) and node.body]
+    return [id(body[0].value) for body in bodies if isinstance(body[0], ast.Expr)]
+
+
+def for_each_file(check):
+    """A test that checks each file of the package by itself."""
+    def test(self):
+        for name, source in sources().items():
+            with self.subTest(file=name):
+                check(self, source, parsed(source))
+    return test
+
+
+class LanguageTest(unittest.TestCase):
+    def test_folder(self):
+        names = [path.name for path in PACKAGE.iterdir() if path.name != "__pycache__"]
+        self.assertLessEqual(len(names), 100)
+        for name in names:
+            self.assertRegex(name, r"\A(__init__|[a-z][a-z0-9_]*)\.py\Z")
+
+    @for_each_file
+    def test_characters_and_sizes(self, source, tree):
+        self.assertEqual(re.findall(r"[^ -~\n]", source), [])
+        lines = source.split("\n")
+        self.assertLessEqual(len(lines) - 1, 399)
+        self.assertLessEqual(max(map(len, lines)), 120)
+        for node in ast.walk(tree):
+            if isinstance(node, ast.FunctionDef):
+                self.assertLessEqual(node.end_lineno - node.lineno + 1, 40, node.name)
+
+    @for_each_file
+    def test_no_warnings(self, source, tree):
+        with warnings.catch_warnings():
+            warnings.simplefilter("error")
+            compile(source, "file", "exec")
+
+    @for_each_file
+    def test_module_level(self, source, tree):
+        self.assertIsNotNone(ast.get_docstring(tree))
+        for node in tree.body[1:]:
+            self.assertIsInstance(node, (ast.ImportFrom, ast.FunctionDef, ast.ClassDef, ast.Assign))
+            if isinstance(node, ast.Assign):
+                self.assertEqual([type(target) for target in node.targets], [ast.Name])
+        self.assertEqual(len(defined(tree)), len(set(defined(tree))))
+
+    def test_imports(self):
+        trees = {name: parsed(source) for name, source in sources().items()}
+        needs = {name: set() for name in trees}
+        for name, tree in trees.items():
+            for node in ast.walk(tree):
+                if isinstance(node, ast.ImportFrom) and node.module not in LIBRARY:
+                    self.assertEqual(node.level, 0)
+                    package, _, module = node.module.partition(".")
+                    self.assertEqual(package, "gazette")
+                    needs[name].add(module)
+                    for alias in node.names:
+                        self.assertIn(alias.name, defined(trees[module]), f"{name}: {node.module}")
+        while needs:
+            free = [name for name, wanted in needs.items() if not wanted]
+            self.assertTrue(free, f"circular imports: {needs}")
+            needs = {name: wanted - set(free) for name, wanted in needs.items() if name not in free}
+
+    @for_each_file
+    def test_every_import_is_read(self, source, tree):
+        read = [node.id for node in ast.walk(tree) if isinstance(node, ast.Name)]
+        for node in ast.walk(tree):
+            if isinstance(node, ast.ImportFrom):
+                self.assertEqual([alias.name for alias in node.names if alias.name not in read], [])
+
+    @for_each_file
+    def test_names(self, source, tree):
+        for name in bound_names(tree):
+            self.assertRegex(name, r"\A(__[a-z]+__|_?[A-Za-z][A-Za-z0-9_]*|_)\Z")
+            self.assertFalse(name not in ("__init__", "_") and hasattr(builtins, name), name)
+            self.assertNotIn(name, BARRED_NAMES | BARRED_WORDS)
+        for node in ast.walk(tree):
+            if isinstance(node, ast.Name) and node.id not in list(bound_names(tree)):
+                self.assertIn(node.id, BUILTINS)
+
+    @for_each_file
+    def test_no_inner_name_hides_a_class_or_an_import(self, source, tree):
+        outer = [node.name for node in tree.body if isinstance(node, ast.ClassDef)]
+        for node in tree.body:
+            if isinstance(node, ast.ImportFrom):
+                outer += [alias.name for alias in node.names]
+        for node in ast.walk(tree):
+            name = getattr(node, "arg", None) if isinstance(node, ast.arg) else getattr(node, "id", None)
+            if isinstance(node, ast.arg) or (isinstance(node, ast.Name) and isinstance(node.ctx, ast.Store)):
+                self.assertNotIn(name, outer)
+
+    @for_each_file
+    def test_kinds_of_code(self, source, tree):
+        told = docstrings(tree)
+        for node in ast.walk(tree):
+            self.assertNotIsInstance(node, NOT_USED)
+            if isinstance(node, ast.FunctionDef):
+                self.assertEqual(node.decorator_list, [])
+            if isinstance(node, ast.Constant):
+                self.assertNotIsInstance(node.value, (float, complex))
+                if isinstance(node.value, str) and id(node) not in told:
+                    self.assertNotIn(chr(37), node.value)
+            if isinstance(node, ast.Compare) and isinstance(node.ops[0], (ast.Is, ast.IsNot)):
+                self.assertIn(ast.unparse(node.comparators[0]), ("None", "True", "False"))
+            if isinstance(node, ast.Raise) and node.exc:
+                self.assertIsInstance(node.exc, ast.Call)
+
+    @for_each_file
+    def test_words(self, source, tree):
+        strings = [n.value for n in ast.walk(tree) if isinstance(n, ast.Constant) and isinstance(n.value, str)]
+        names = [n.attr for n in ast.walk(tree) if isinstance(n, ast.Attribute)] + list(bound_names(tree))
+        self.assertEqual([name for name in names if name in BARRED_WORDS], [])
+        self.assertNotRegex(source, "dataclass|overload|contextmanager")
+        for text in strings:
+            self.assertEqual([word for word in re.findall(r"\w+", text) if word in BARRED_WORDS], [])
+
+    def test_methods(self):
+        trees = [parsed(source) for source in sources().values()]
+        own = {
+            node.name for tree in trees for node in ast.walk(tree)
+            if isinstance(node, ast.FunctionDef) and isinstance(node.around, ast.ClassDef)
+        }
+        for tree in trees:
+            for node in ast.walk(tree):
+                if isinstance(node, ast.Call) and isinstance(node.func, ast.Attribute):
+                    self.assertIn(node.func.attr, METHODS | own)
+
+    @for_each_file
+    def test_views_are_iterated_at_once_and_sets_stand_in_their_places(self, source, tree):
+        for node in ast.walk(tree):
+            if called(node) in VIEWS:
+                around = node.around
+                looped = isinstance(around, (ast.For, ast.comprehension)) and around.iter is node
+                tested = isinstance(around, ast.Compare) and isinstance(around.ops[0], (ast.In, ast.NotIn))
+                self.assertTrue(looped or tested or called(around) in TAKERS, ast.unparse(around))
+            if called(node) == "set" or isinstance(node, (ast.Set, ast.SetComp)):
+                around = node.around
+                fits = isinstance(around, (ast.Compare, ast.Assign)) or called(around) in ("sorted", "len")
+                self.assertTrue(fits, ast.unparse(around))
+            if isinstance(node, ast.GeneratorExp):
+                self.assertIn(called(node.around), TAKERS | {"join"})
+
+
+if __name__ == "__main__":
+    unittest.main()
