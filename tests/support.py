@@ -1,5 +1,6 @@
 """What several tests need."""
 
+import itertools
 import unittest
 
 
@@ -39,3 +40,21 @@ def roll_call_of(counts, size):
     """A roll call of so many members with these counts."""
     yeas, nays, present = counts
     return ("Y" * yeas + "N" * nays + "P" * present).ljust(size, "-")
+
+
+KEEP = ("keep",)
+
+
+def remove(line):
+    return ("remove", line)
+
+
+def insert(line):
+    return ("insert", line)
+
+
+def short_scripts(longest, lines=("a", "b")):
+    """All scripts of at most so many steps, with these lines."""
+    steps = [KEEP, *map(remove, lines), *map(insert, lines)]
+    for many in range(longest + 1):
+        yield from itertools.product(steps, repeat=many)

@@ -27,6 +27,53 @@ SIGNATURES = {
         "decisive_yeas": "(rule, sizes, *, parameters=())",
         "decisive_absences": "(rule, sizes, *, parameters=())",
     },
+    "seats": {
+        "is_seating": "(members, seats)",
+        "apply_changes": "(members, seats, changes)",
+        "inverse_changes": "(members, seats, changes)",
+        "set_holders": "(seats, changes)",
+        "changes_between": "(before, after)",
+    },
+    "substitutes": {
+        "available": "(ranked, events)",
+        "seated_by_rank": "(ranked, many, events)",
+        "seated_by_tenure": "(ranked, many, events)",
+    },
+    "petitions": {
+        "qualifies": "(threshold, signatures)",
+        "signatures_needed": "(threshold, counts)",
+        "further_signatures": "(threshold, counts)",
+    },
+    "edits": {
+        "applies": "(lines, edit)",
+        "in_order": "(edits)",
+        "apply_edits": "(lines, edits)",
+        "line_origins": "(lines, edits)",
+        "conflict": "(first, second)",
+        "first_conflict": "(edits)",
+        "sorted_edits": "(edits)",
+        "inverse_edits": "(edits)",
+        "perform": "(lines, edits, order)",
+    },
+    "scripts": {
+        "script_of": "(edits)",
+        "run_script": "(script, lines)",
+        "normal_form": "(script)",
+        "edits_of": "(script)",
+        "inverse_script": "(script)",
+    },
+    "composing": {
+        "compose": "(scripts)",
+        "alike": "(first, second)",
+        "least_text": "(script, filler)",
+        "parting_text": "(first, second)",
+    },
+    "amendments": {
+        "voting_order": "(edits)",
+        "resolve": "(edits, flags)",
+        "adopted_in": "(edits, flags, order)",
+        "amended": "(lines, edits, flags)",
+    },
 }
 
 

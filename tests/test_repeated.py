@@ -3,11 +3,22 @@
 import copy
 import unittest
 
+from gazette.amendments import adopted_in, amended, resolve, voting_order
 from gazette.blanks import highest_passing, passes_amount
+from gazette.composing import alike, compose, least_text, parting_text
+from gazette.edits import (
+    applies, apply_edits, conflict, first_conflict, in_order, inverse_edits, line_origins, perform, sorted_edits,
+)
+from gazette.errors import GazetteError
 from gazette.isolation import no_show, pairing, parting_counts, passes_at
+from gazette.petitions import further_signatures, qualifies, signatures_needed
 from gazette.rules import named, passes
+from gazette.scripts import edits_of, inverse_script, normal_form, run_script, script_of
+from gazette.seats import apply_changes, changes_between, inverse_changes, is_seating, set_holders
+from gazette.substitutes import available, seated_by_rank, seated_by_tenure
 from gazette.tallies import tally
 from gazette.whips import decisive_absences, decisive_yeas, is_read_once, least_absences, least_yeas
+from test_interface import SIGNATURES
 
 SEATS = ((0, 1, None, 1), (2, None, 3))
 RULE = ("all", ("any", ("premier",), ("yeas", 0, ("parameter", 0))), ("fraction", 1, 1, 2, "voting"))
@@ -32,12 +43,69 @@ VOTES = [
     (decisive_yeas, (ONCE, (3, 5, 2)), NUMBERS),
     (decisive_absences, (ONCE, (3, 5, 2)), NUMBERS),
 ]
-CALLS = VOTES
+
+CHANGES = ((0, 0, None), (0, 2, 0), (1, 1, 3))
+EVENTS = (("departs", 3), ("returns", 3), ("departs", 1))
+THRESHOLD = (3, 10, 4, 2)
+
+SEATINGS = [
+    (is_seating, (4, SEATS), {}),
+    (apply_changes, (4, SEATS, CHANGES), {}),
+    (inverse_changes, (4, SEATS, CHANGES[:2]), {}),
+    (set_holders, (SEATS, CHANGES), {}),
+    (changes_between, (((0, 1, None),), ((1, None, 2),)), {}),
+    (available, ((3, 1, 4, 0), EVENTS), {}),
+    (seated_by_rank, ((3, 1, 4, 0), 2, EVENTS), {}),
+    (seated_by_tenure, ((3, 1, 4, 0), 2, EVENTS), {}),
+    (qualifies, (THRESHOLD, ((0, 7), (1, 7), (0, 8))), {}),
+    (signatures_needed, (THRESHOLD, (5, 1, 2)), {}),
+    (further_signatures, (THRESHOLD, (5, 1, 2)), {}),
+]
+
+LINES = ("a", "b", "c")
+EDITS = ((0, (), ("x",)), (0, ("a",), ("y", "z")), (2, ("c",), ()))
+MIXED = (EDITS[2], EDITS[1], EDITS[0], (1, ("b", "c"), ()))
+FLAGS = (True, True, False, True)
+SCRIPT = (("insert", "x"), ("remove", "a"), ("keep",))
+OTHER = (("keep",), ("insert", ""), ("keep",))
+
+TEXTS = [
+    (applies, (LINES, EDITS[1]), {}),
+    (in_order, (EDITS,), {}),
+    (apply_edits, (LINES, EDITS), {}),
+    (line_origins, (LINES, EDITS), {}),
+    (conflict, (EDITS[2], MIXED[3]), {}),
+    (first_conflict, (MIXED,), {}),
+    (sorted_edits, (MIXED,), {}),
+    (inverse_edits, (EDITS,), {}),
+    (perform, (LINES, EDITS, (1, 2, 0)), {}),
+    (script_of, (EDITS,), {}),
+    (run_script, (SCRIPT, LINES), {}),
+    (normal_form, (SCRIPT,), {}),
+    (edits_of, (SCRIPT,), {}),
+    (inverse_script, (SCRIPT,), {}),
+    (compose, ((SCRIPT, OTHER, SCRIPT[:1]),), {}),
+    (alike, (SCRIPT, OTHER), {}),
+    (least_text, (SCRIPT, "f"), {}),
+    (parting_text, (SCRIPT, OTHER), {}),
+    (voting_order, (MIXED,), {}),
+    (resolve, (MIXED, FLAGS), {}),
+    (adopted_in, (MIXED, FLAGS, (3, 1, 0, 2)), {}),
+    (amended, (LINES, MIXED, FLAGS), {}),
+]
+
+REFUSED = [(question, (RULE, (3, 5)), {}) for question in (least_yeas, least_absences)]
+REFUSED += [(question, (RULE, (3, 5)), {}) for question in (decisive_yeas, decisive_absences)]
+REFUSED += [(inverse_edits, (MIXED,), {}), (script_of, (MIXED,), {})]
+CALLS = VOTES + SEATINGS + REFUSED + TEXTS
 
 
 def answer(call):
     function, arguments, options = call
-    return repr(function(*arguments, **options))
+    try:
+        return repr(function(*arguments, **options))
+    except GazetteError as error:
+        return repr(error)
 
 
 class RepeatedTest(unittest.TestCase):
@@ -48,6 +116,14 @@ class RepeatedTest(unittest.TestCase):
         for call, expected in zip(CALLS, first):
             self.assertEqual(answer(call), answer(call))
             self.assertEqual(answer(call), expected)
+
+    def test_every_function_of_the_interface_is_asked(self):
+        asked = {function.__name__ for function, _, _ in CALLS}
+        self.assertEqual(asked, {name for functions in SIGNATURES.values() for name in functions})
+
+    def test_only_the_refused_calls_are_refused(self):
+        errors = [call for call in CALLS if answer(call).startswith(("NotReadOnce", "NotInOrder"))]
+        self.assertEqual(errors, REFUSED)
 
     def test_arguments_are_not_changed(self):
         for call in CALLS:
