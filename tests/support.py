@@ -58,3 +58,52 @@ def short_scripts(longest, lines=("a", "b")):
     steps = [KEEP, *map(remove, lines), *map(insert, lines)]
     for many in range(longest + 1):
         yield from itertools.product(steps, repeat=many)
+
+
+def small_edits():
+    """A few edits with conflicts of all kinds, insertions among them."""
+    return (
+        (0, (), ("x",)), (0, ("a",), ()), (0, ("a",), ("y",)), (0, ("a", "b"), ()), (1, (), ("x",)), (1, (), ()),
+        (1, ("b",), ()), (1, ("b", "c"), ()), (2, (), ("x",)), (2, ("c",), ()),
+    )
+
+
+def compatible_tuples(longest):
+    """All compatible tuples of different small edits, each in one order."""
+    found = []
+    for many in range(longest + 1):
+        for edits in itertools.combinations(small_edits(), many):
+            clashes = [
+                one for one, other in itertools.combinations(edits, 2)
+                if one[0] < other[0] + len(other[1]) and other[0] < one[0] + len(one[1])
+            ]
+            if not clashes:
+                found.append(edits)
+    return found
+
+
+def compatible_pairs():
+    """Pairs of compatible edits of two chambers, some of them in another order than the texts'."""
+    one = compatible_tuples(2)
+    other = [edits[::-1] for edits in compatible_tuples(3)]
+    return [pair for pair in itertools.product(one, other)][::3]
+
+
+def all_compromises(first, second):
+    """All compromises between compatible edits, by trying all subsets."""
+    different = sorted(set(first + second))
+    shared = [edit for edit in first if edit in second]
+    for many in range(len(different) + 1):
+        for edits in itertools.combinations(different, many):
+            fits = [
+                one[0] >= other[0] + len(other[1]) or other[0] >= one[0] + len(one[1])
+                for one, other in itertools.combinations(edits, 2)
+            ]
+            if all(fits) and all(edit in edits for edit in shared):
+                yield edits
+
+
+def small_trees(most):
+    """All budget trees with at most so many nodes."""
+    for many in range(most):
+        yield from itertools.product(*[range(node + 1) for node in range(many)])

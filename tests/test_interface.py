@@ -74,6 +74,50 @@ SIGNATURES = {
         "adopted_in": "(edits, flags, order)",
         "amended": "(lines, edits, flags)",
     },
+    "compromises": {
+        "is_compatible": "(edits)",
+        "is_compromise": "(first, second, edits)",
+        "scheduling_order": "(first, second)",
+        "largest": "(first, second)",
+        "is_clique_cover": "(first, second, groups)",
+    },
+    "weights": {
+        "heaviest": "(first, second, first_weights, second_weights)",
+        "is_price_cover": "(first, second, first_weights, second_weights, prices)",
+        "price_bound": "(first, second, first_weights, second_weights, prices)",
+    },
+    "medians": {"median": "(first, second, third)"},
+    "bills": {
+        "adopted_edits": "(bill)",
+        "resulting_text": "(document)",
+        "is_valid_bill": "(bill, flags)",
+        "is_valid_report": "(report, first, second)",
+        "is_valid_statute": "(book, edits, texts)",
+    },
+    "dates": {
+        "is_leap": "(year)",
+        "month_length": "(year, month)",
+        "weekday": "(day)",
+        "day_of": "(date)",
+        "date_of": "(day)",
+        "next_date": "(date)",
+        "add_months": "(date, months)",
+    },
+    "sittings": {
+        "is_sitting": "(calendar, day)",
+        "sitting_day": "(calendar, sitting)",
+        "sittings_before": "(calendar, day)",
+        "last_sitting": "(calendar, day)",
+    },
+    "trees": {
+        "path": "(tree, node)",
+        "descendants": "(tree, node)",
+        "common_ancestor": "(tree, first, second)",
+        "distance": "(tree, first, second)",
+        "node_totals": "(tree, own)",
+        "own_amounts": "(tree, totals)",
+        "is_consistent_table": "(tree, rows)",
+    },
 }
 
 

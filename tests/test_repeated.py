@@ -4,19 +4,28 @@ import copy
 import unittest
 
 from gazette.amendments import adopted_in, amended, resolve, voting_order
+from gazette.bills import adopted_edits, is_valid_bill, is_valid_report, is_valid_statute, resulting_text
 from gazette.blanks import highest_passing, passes_amount
 from gazette.composing import alike, compose, least_text, parting_text
+from gazette.compromises import is_clique_cover, is_compatible, is_compromise, largest, scheduling_order
+from gazette.dates import add_months, date_of, day_of, is_leap, month_length, next_date, weekday
 from gazette.edits import (
     applies, apply_edits, conflict, first_conflict, in_order, inverse_edits, line_origins, perform, sorted_edits,
 )
 from gazette.errors import GazetteError
 from gazette.isolation import no_show, pairing, parting_counts, passes_at
+from gazette.medians import median
 from gazette.petitions import further_signatures, qualifies, signatures_needed
 from gazette.rules import named, passes
 from gazette.scripts import edits_of, inverse_script, normal_form, run_script, script_of
 from gazette.seats import apply_changes, changes_between, inverse_changes, is_seating, set_holders
+from gazette.sittings import is_sitting, last_sitting, sitting_day, sittings_before
 from gazette.substitutes import available, seated_by_rank, seated_by_tenure
 from gazette.tallies import tally
+from gazette.trees import (
+    common_ancestor, descendants, distance, is_consistent_table, node_totals, own_amounts, path,
+)
+from gazette.weights import heaviest, is_price_cover, price_bound
 from gazette.whips import decisive_absences, decisive_yeas, is_read_once, least_absences, least_yeas
 from test_interface import SIGNATURES
 
@@ -94,10 +103,65 @@ TEXTS = [
     (amended, (LINES, MIXED, FLAGS), {}),
 ]
 
+FIRST = ((0, ("a", "b"), ()), (2, (), ("x",)))
+SECOND = ((2, (), ("x",)), (2, ("c",), ()), (0, ("a",), ("y",)), (1, (), ("z",)))
+WEIGHED = (FIRST, SECOND, (5, 1), (2, 3, 2, 0))
+BILL = ("bill", LINES, tuple((edit, "YY") for edit in FIRST), (1, 0))
+REPORT = ("report", LINES, (FIRST[1], SECOND[1]))
+
+CONFERENCE = [
+    (is_compatible, (SECOND,), {}),
+    (is_compromise, (FIRST, SECOND, FIRST), {}),
+    (scheduling_order, (SECOND, FIRST), {}),
+    (largest, (FIRST, SECOND), {}),
+    (is_clique_cover, (FIRST, SECOND, (SECOND[:1], SECOND[1:2], (FIRST[0], SECOND[2]), SECOND[3:])), {}),
+    (heaviest, WEIGHED, {}),
+    (is_price_cover, (*WEIGHED, (3, 2, 2)), {}),
+    (price_bound, (*WEIGHED, (3, 2, 2)), {}),
+    (median, (FIRST, SECOND, SECOND[1:]), {}),
+    (adopted_edits, (BILL,), {}),
+    (resulting_text, (BILL,), {}),
+    (resulting_text, (REPORT,), {}),
+    (is_valid_bill, (BILL, (True, True)), {}),
+    (is_valid_report, (REPORT, BILL, ("bill", LINES, ((SECOND[1], ""),), (0,))), {}),
+    (is_valid_statute, (LINES, EDITS, (("x", "y", "z"),)), {}),
+]
+
+CALENDAR = (3, (True, False, False, True, False, False, False), (10, 7, 10))
+
+TIMES = [
+    (is_leap, (2000,), {}),
+    (month_length, (1900, 2), {}),
+    (weekday, (1000,), {}),
+    (day_of, ((2024, 2, 29),), {}),
+    (date_of, (738944,), {}),
+    (next_date, ((2024, 2, 29),), {}),
+    (add_months, ((2024, 1, 31), 1), {}),
+    (is_sitting, (CALENDAR, 14), {}),
+    (sitting_day, (CALENDAR, 5), {}),
+    (sittings_before, (CALENDAR, 30), {}),
+    (last_sitting, (CALENDAR, 13), {}),
+]
+
+TREE = (0, 0, 1, 1)
+OWN = (1, 2, 3, 4, 5)
+
+BUDGETS = [
+    (path, (TREE, 4), {}),
+    (descendants, (TREE, 1), {}),
+    (common_ancestor, (TREE, 3, 2), {}),
+    (distance, (TREE, 3, 2), {}),
+    (node_totals, (TREE, OWN), {}),
+    (own_amounts, (TREE, (15, 11, 3, 4, 5)), {}),
+    (is_consistent_table, (TREE, tuple(zip(OWN, (15, 11, 3, 4, 5)))), {}),
+]
+
 REFUSED = [(question, (RULE, (3, 5)), {}) for question in (least_yeas, least_absences)]
 REFUSED += [(question, (RULE, (3, 5)), {}) for question in (decisive_yeas, decisive_absences)]
 REFUSED += [(inverse_edits, (MIXED,), {}), (script_of, (MIXED,), {})]
-CALLS = VOTES + SEATINGS + REFUSED + TEXTS
+REFUSED += [(largest, (MIXED, ()), {}), (heaviest, (MIXED, (), (1, 2, 3, 4), ()), {})]
+REFUSED += [(question, ((), MIXED, (), (1, 2, 3, 4), ()), {}) for question in (is_price_cover, price_bound)]
+CALLS = VOTES + SEATINGS + REFUSED + TEXTS + CONFERENCE + TIMES + BUDGETS
 
 
 def answer(call):
@@ -122,7 +186,7 @@ class RepeatedTest(unittest.TestCase):
         self.assertEqual(asked, {name for functions in SIGNATURES.values() for name in functions})
 
     def test_only_the_refused_calls_are_refused(self):
-        errors = [call for call in CALLS if answer(call).startswith(("NotReadOnce", "NotInOrder"))]
+        errors = [call for call in CALLS if answer(call).startswith(("NotReadOnce", "NotInOrder", "Conflicting"))]
         self.assertEqual(errors, REFUSED)
 
     def test_arguments_are_not_changed(self):
