@@ -107,3 +107,17 @@ def small_trees(most):
     """All budget trees with at most so many nodes."""
     for many in range(most):
         yield from itertools.product(*[range(node + 1) for node in range(many)])
+
+
+def entry_type(payload="none", rule=("premier",), basis=(), annulled=(), cured=(), ratified=()):
+    return (payload, rule, basis, annulled, cured, ratified)
+
+
+def charter_of(
+    *entry_types, members=3, seats=((0, 1, 2),), parameters=(), tree=(), appropriations=(0,), premier=0,
+):
+    """A charter that is valid as far as its entry types are."""
+    calendar = (0, (True,) * 7, ())
+    return (
+        members, seats, parameters, (), tree, appropriations, premier, (0, 0, 0, 0), calendar, entry_types,
+    )

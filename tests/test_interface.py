@@ -118,6 +118,39 @@ SIGNATURES = {
         "own_amounts": "(tree, totals)",
         "is_consistent_table": "(tree, rows)",
     },
+    "partial": {
+        "complete": "(tree, known)",
+        "nearest_known": "(tree, known, node)",
+        "open_leaves": "(tree, known, node)",
+    },
+    "reserves": {
+        "settle": "(tree, funds, claims)",
+        "pay": "(tree, funds, payments)",
+        "divide": "(tree, funds, payments)",
+    },
+    "transfers": {
+        "net_flows": "(tree, before, after)",
+        "plan_transfers": "(tree, before, after)",
+        "crossings": "(tree, transfers)",
+        "node_prices": "(tree, before, after)",
+        "lower_bound": "(tree, before, after, prices)",
+    },
+    "twelfths": {
+        "released": "(amounts)",
+        "monthly_releases": "(amounts)",
+    },
+    "charters": {
+        "check_charter": "(charter)",
+        "edges": "(charter)",
+        "writers": "(charter, component)",
+        "pivotal_member": "(charter, number)",
+    },
+    "walks": {
+        "is_walk": "(charter, numbers)",
+        "slack": "(charter, numbers)",
+        "reached": "(charter)",
+    },
+    "rankings": {"verify_ranking": "(charter, ranking)"},
 }
 
 

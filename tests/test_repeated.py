@@ -6,6 +6,7 @@ import unittest
 from gazette.amendments import adopted_in, amended, resolve, voting_order
 from gazette.bills import adopted_edits, is_valid_bill, is_valid_report, is_valid_statute, resulting_text
 from gazette.blanks import highest_passing, passes_amount
+from gazette.charters import check_charter, edges, pivotal_member, writers
 from gazette.composing import alike, compose, least_text, parting_text
 from gazette.compromises import is_clique_cover, is_compatible, is_compromise, largest, scheduling_order
 from gazette.dates import add_months, date_of, day_of, is_leap, month_length, next_date, weekday
@@ -15,18 +16,25 @@ from gazette.edits import (
 from gazette.errors import GazetteError
 from gazette.isolation import no_show, pairing, parting_counts, passes_at
 from gazette.medians import median
+from gazette.partial import complete, nearest_known, open_leaves
 from gazette.petitions import further_signatures, qualifies, signatures_needed
+from gazette.rankings import verify_ranking
+from gazette.reserves import divide, pay, settle
 from gazette.rules import named, passes
 from gazette.scripts import edits_of, inverse_script, normal_form, run_script, script_of
 from gazette.seats import apply_changes, changes_between, inverse_changes, is_seating, set_holders
 from gazette.sittings import is_sitting, last_sitting, sitting_day, sittings_before
 from gazette.substitutes import available, seated_by_rank, seated_by_tenure
 from gazette.tallies import tally
+from gazette.transfers import crossings, lower_bound, net_flows, node_prices, plan_transfers
 from gazette.trees import (
     common_ancestor, descendants, distance, is_consistent_table, node_totals, own_amounts, path,
 )
+from gazette.twelfths import monthly_releases, released
+from gazette.walks import is_walk, reached, slack
 from gazette.weights import heaviest, is_price_cover, price_bound
 from gazette.whips import decisive_absences, decisive_yeas, is_read_once, least_absences, least_yeas
+from support import charter_of, entry_type
 from test_interface import SIGNATURES
 
 SEATS = ((0, 1, None, 1), (2, None, 3))
@@ -154,6 +162,36 @@ BUDGETS = [
     (node_totals, (TREE, OWN), {}),
     (own_amounts, (TREE, (15, 11, 3, 4, 5)), {}),
     (is_consistent_table, (TREE, tuple(zip(OWN, (15, 11, 3, 4, 5)))), {}),
+    (complete, (TREE, (10, None, None, 4, None)), {}),
+    (complete, (TREE, (10, 2, None, 4, None)), {}),
+    (nearest_known, (TREE, (10, None, None, 4, None), 0), {}),
+    (open_leaves, (TREE, (10, None, None, 4, None), 0), {}),
+    (settle, (TREE, OWN, (1, 1, 2, 6, 0)), {}),
+    (settle, (TREE, OWN, (1, 1, 2, 9, 0)), {}),
+    (pay, (TREE, OWN, ((3, 7), (4, 5))), {}),
+    (divide, (TREE, OWN, ((3, 7), (4, 5))), {}),
+    (net_flows, (TREE, OWN, OWN[::-1]), {}),
+    (plan_transfers, (TREE, OWN, OWN[::-1]), {}),
+    (crossings, (TREE, ((3, 2, 4), (1, 4, 2), (2, 2, 1))), {}),
+    (node_prices, (TREE, OWN, OWN[::-1]), {}),
+    (lower_bound, (TREE, OWN, OWN[::-1], (0, 1, 0, 1, 2)), {}),
+    (released, ((120, 240, 60) * 4,), {}),
+    (monthly_releases, ((120, 240, 60) * 4,), {}),
+]
+
+CHARTER = charter_of(
+    entry_type("seats", ("yeas", 0, 2), basis=((0, 0),), annulled=((1, 2),)), entry_type(basis=((0, 3),)),
+)
+
+CHARTERS = [
+    (check_charter, (CHARTER,), {}),
+    (edges, (CHARTER,), {}),
+    (writers, (CHARTER, "seats"), {}),
+    (pivotal_member, (CHARTER, 0), {}),
+    (is_walk, (CHARTER, (0, 1, 2)), {}),
+    (slack, (CHARTER, (0, 1, 2)), {}),
+    (reached, (CHARTER,), {}),
+    (verify_ranking, (CHARTER, ((2, "mixed", 0), (2, "mixed", -7))), {}),
 ]
 
 REFUSED = [(question, (RULE, (3, 5)), {}) for question in (least_yeas, least_absences)]
@@ -161,7 +199,23 @@ REFUSED += [(question, (RULE, (3, 5)), {}) for question in (decisive_yeas, decis
 REFUSED += [(inverse_edits, (MIXED,), {}), (script_of, (MIXED,), {})]
 REFUSED += [(largest, (MIXED, ()), {}), (heaviest, (MIXED, (), (1, 2, 3, 4), ()), {})]
 REFUSED += [(question, ((), MIXED, (), (1, 2, 3, 4), ()), {}) for question in (is_price_cover, price_bound)]
-CALLS = VOTES + SEATINGS + REFUSED + TEXTS + CONFERENCE + TIMES + BUDGETS
+REFUSED += [(question, (TREE, OWN, (0,) * 5), {}) for question in (net_flows, plan_transfers, node_prices)]
+REFUSED += [(lower_bound, (TREE, OWN, (0,) * 5, (0, 2, 0, 0, 0)), {})]
+REFUSED += [
+    (check_charter, (charter_of(entry_type(), seats=((3,),)),), {}),
+    (check_charter, (charter_of(entry_type(), appropriations=()),), {}),
+    (check_charter, (charter_of(entry_type(), premier=3),), {}),
+    (check_charter, (charter_of(entry_type(), entry_type(basis=((2, 1),))),), {}),
+    (check_charter, (charter_of(entry_type(), entry_type("seats")),), {}),
+    (check_charter, (charter_of(entry_type(), entry_type(rule=("yeas", 0, 0))),), {}),
+]
+CALLS = VOTES + SEATINGS + REFUSED + TEXTS + CONFERENCE + TIMES + BUDGETS + CHARTERS
+
+
+ERRORS = (
+    "NotReadOnce", "NotInOrder", "Conflicting", "TotalsDiffer", "BadSeats", "BadAmounts", "BadPremier",
+    "BadDependency", "MissingDependency", "BadRule",
+)
 
 
 def answer(call):
@@ -186,7 +240,7 @@ class RepeatedTest(unittest.TestCase):
         self.assertEqual(asked, {name for functions in SIGNATURES.values() for name in functions})
 
     def test_only_the_refused_calls_are_refused(self):
-        errors = [call for call in CALLS if answer(call).startswith(("NotReadOnce", "NotInOrder", "Conflicting"))]
+        errors = [call for call in CALLS if answer(call).startswith(ERRORS)]
         self.assertEqual(errors, REFUSED)
 
     def test_arguments_are_not_changed(self):
