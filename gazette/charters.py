@@ -47,6 +47,12 @@ def is_backward(edge):
     return edge[2] == "basis"
 
 
+def named_types(charter, number, kind):
+    """Return a dict with the types that a type names for edges of a kind, and their sittings."""
+    pairs = charter[9][number][2 + EDGE_KINDS.index(kind)]
+    return {target: sittings for target, sittings in pairs}
+
+
 def writers(charter, component):
     """Return the writers of a component of the state, ascending."""
     kinds = WRITING_KINDS[component]

@@ -1,6 +1,7 @@
 """Walks along the edges of a charter."""
 
 from gazette.charters import edges, is_backward
+from gazette.components import reached_from
 
 
 def is_walk(charter, numbers):
@@ -12,13 +13,13 @@ def is_walk(charter, numbers):
 
 def slack(charter, numbers):
     """Return the sittings of the forward edges minus those of the backward edges."""
-    return sum([-edge[3] if is_backward(edge) else edge[3] for edge in edges_at(charter, numbers)])
+    return sum([edge_slack(edge) for edge in edges_at(charter, numbers)])
 
 
 def reached(charter):
     """Return for each entry type the types that it reaches, ascending."""
     all_edges = edges(charter)
-    return tuple([_reached_from(start, all_edges) for start in range(len(charter[9]))])
+    return tuple([reached_from(start, all_edges) for start in range(len(charter[9]))])
 
 
 def edges_at(charter, numbers):
@@ -27,12 +28,6 @@ def edges_at(charter, numbers):
     return [all_edges[number] for number in numbers]
 
 
-def _reached_from(start, all_edges):
-    found = [start]
-    done = 0
-    while done < len(found):
-        for source, target, _, _ in all_edges:
-            if source == found[done] and target not in found:
-                found.append(target)
-        done += 1
-    return tuple(sorted(found))
+def edge_slack(edge):
+    """Return what an edge adds to the slack of a walk."""
+    return -edge[3] if is_backward(edge) else edge[3]

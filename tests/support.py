@@ -113,11 +113,19 @@ def entry_type(payload="none", rule=("premier",), basis=(), annulled=(), cured=(
     return (payload, rule, basis, annulled, cured, ratified)
 
 
+DAILY = (0, (True,) * 7, ())
+
+
 def charter_of(
-    *entry_types, members=3, seats=((0, 1, 2),), parameters=(), tree=(), appropriations=(0,), premier=0,
+    *entry_types, members=3, seats=((0, 1, 2),), parameters=(), statutes=(), tree=(), appropriations=(0,), premier=0,
+    petition=(0, 0, 0, 0), calendar=DAILY,
 ):
     """A charter that is valid as far as its entry types are."""
-    calendar = (0, (True,) * 7, ())
     return (
-        members, seats, parameters, (), tree, appropriations, premier, (0, 0, 0, 0), calendar, entry_types,
+        members, seats, parameters, statutes, tree, appropriations, premier, petition, calendar, entry_types,
     )
+
+
+def entry(number=0, sitting=0, roll_call="YYY", basis=(), effect=None, payload=None):
+    """An entry of a record."""
+    return (number, sitting, roll_call, basis, effect, payload)

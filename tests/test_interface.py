@@ -151,6 +151,44 @@ SIGNATURES = {
         "reached": "(charter)",
     },
     "rankings": {"verify_ranking": "(charter, ranking)"},
+    "cycles": {
+        "analyze": "(charter)",
+        "verify_cycle": "(charter, numbers)",
+        "determinate_types": "(charter)",
+    },
+    "records": {
+        "check_record": "(charter, record)",
+        "backward": "(charter, record, entry)",
+        "forward": "(charter, record, entry)",
+    },
+    "states": {
+        "start_state": "(charter)",
+        "apply_payload": "(state, payload)",
+        "state_after": "(charter, record, statuses)",
+        "observed_state": "(charter, record, statuses, entry)",
+    },
+    "payloads": {"is_correct": "(charter, state, number, payload, cited)"},
+    "entries": {
+        "cited": "(charter, record, statuses, entry)",
+        "is_procedural": "(charter, record, statuses, entry)",
+        "is_substantive": "(charter, record, statuses, entry)",
+        "valid_under": "(charter, record, statuses, entry)",
+        "objections": "(charter, record, statuses, entry)",
+        "revised": "(charter, record, statuses)",
+    },
+    "circles": {
+        "dependency_cycle": "(charter, record)",
+        "determined": "(charter, record)",
+    },
+    "validity": {
+        "is_consistent": "(charter, record, statuses)",
+        "rounds": "(charter, record, statuses)",
+        "evaluation_order": "(charter, record)",
+        "validity": "(charter, record)",
+        "final_state": "(charter, record)",
+        "was_valid": "(charter, record, length, entry)",
+        "history": "(charter, record, entry)",
+    },
 }
 
 

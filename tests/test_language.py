@@ -27,6 +27,7 @@ BARRED_WORDS = set(
     "typing typing_extensions enum Enum IntEnum StrEnum Flag IntFlag Generic Protocol ABC ABCMeta namedtuple"
     " NamedTuple TypedDict TYPE_CHECKING abstractmethod _wall _WallAttr".split()
 )
+ALLOWED_NAMES = {"_", "__init__", "__len__", "__iter__", "__str__"}
 LIBRARY = {"heapq", "math", "itertools", "collections"}
 NOT_USED = (
     ast.AsyncFunctionDef, ast.AsyncFor, ast.AsyncWith, ast.Await, ast.Import, ast.Div, ast.MatMult, ast.Global,
@@ -157,7 +158,7 @@ class LanguageTest(unittest.TestCase):
     def test_names(self, source, tree):
         for name in bound_names(tree):
             self.assertRegex(name, r"\A(__[a-z]+__|_?[A-Za-z][A-Za-z0-9_]*|_)\Z")
-            self.assertFalse(name not in ("__init__", "_") and hasattr(builtins, name), name)
+            self.assertFalse(name not in ALLOWED_NAMES and hasattr(builtins, name), name)
             self.assertNotIn(name, BARRED_NAMES | BARRED_WORDS)
         for node in ast.walk(tree):
             if isinstance(node, ast.Name) and node.id not in list(bound_names(tree)):

@@ -13,7 +13,6 @@ from gazette.dates import add_months, date_of, day_of, is_leap, month_length, ne
 from gazette.edits import (
     applies, apply_edits, conflict, first_conflict, in_order, inverse_edits, line_origins, perform, sorted_edits,
 )
-from gazette.errors import GazetteError
 from gazette.isolation import no_show, pairing, parting_counts, passes_at
 from gazette.medians import median
 from gazette.partial import complete, nearest_known, open_leaves
@@ -34,6 +33,7 @@ from gazette.twelfths import monthly_releases, released
 from gazette.walks import is_walk, reached, slack
 from gazette.weights import heaviest, is_price_cover, price_bound
 from gazette.whips import decisive_absences, decisive_yeas, is_read_once, least_absences, least_yeas
+from record_calls import CALLS_ON_RECORDS, REFUSED_ON_RECORDS, answer
 from support import charter_of, entry_type
 from test_interface import SIGNATURES
 
@@ -209,21 +209,14 @@ REFUSED += [
     (check_charter, (charter_of(entry_type(), entry_type("seats")),), {}),
     (check_charter, (charter_of(entry_type(), entry_type(rule=("yeas", 0, 0))),), {}),
 ]
-CALLS = VOTES + SEATINGS + REFUSED + TEXTS + CONFERENCE + TIMES + BUDGETS + CHARTERS
+CALLS = VOTES + SEATINGS + REFUSED + REFUSED_ON_RECORDS
+CALLS += TEXTS + CONFERENCE + TIMES + BUDGETS + CHARTERS + CALLS_ON_RECORDS
 
 
 ERRORS = (
-    "NotReadOnce", "NotInOrder", "Conflicting", "TotalsDiffer", "BadSeats", "BadAmounts", "BadPremier",
-    "BadDependency", "MissingDependency", "BadRule",
+    "(NotReadOnce", "(NotInOrder", "(Conflicting", "(TotalsDiffer", "(BadSeats", "(BadAmounts", "(BadPremier",
+    "(BadDependency", "(MissingDependency", "(BadRule", "(BadEntry", "(SittingOutOfOrder", "(CircularRecord",
 )
-
-
-def answer(call):
-    function, arguments, options = call
-    try:
-        return repr(function(*arguments, **options))
-    except GazetteError as error:
-        return repr(error)
 
 
 class RepeatedTest(unittest.TestCase):
@@ -241,7 +234,7 @@ class RepeatedTest(unittest.TestCase):
 
     def test_only_the_refused_calls_are_refused(self):
         errors = [call for call in CALLS if answer(call).startswith(ERRORS)]
-        self.assertEqual(errors, REFUSED)
+        self.assertEqual(errors, REFUSED + REFUSED_ON_RECORDS)
 
     def test_arguments_are_not_changed(self):
         for call in CALLS:

@@ -1,0 +1,147 @@
+"""What the document tells, computed by trial or word by word, to compare the program with."""
+
+import itertools
+
+from gazette.charters import edges
+from gazette.payloads import is_correct
+from gazette.rules import passes
+from gazette.states import apply_payload, start_state
+
+
+def worth(edge):
+    return -edge[3] if edge[2] == "basis" else edge[3]
+
+
+def first_walks(charter, start, most):
+    """For each number of edges: the first walk for each end, slack, and directions that have occurred."""
+    all_edges = edges(charter)
+    found = {(start, 0, False, False): ()}
+    for _ in range(most):
+        longer = {}
+        for (here, slack, backward, forward), walk in found.items():
+            for number, edge in enumerate(all_edges):
+                if edge[0] == here:
+                    is_backward = edge[2] == "basis"
+                    key = (edge[1], slack + worth(edge), backward or is_backward, forward or not is_backward)
+                    longer[key] = min(longer.get(key, walk + (number,)), walk + (number,))
+        found = longer
+        yield found
+
+
+def reported_cycle(charter):
+    """The first one of the unsafe cycles with the fewest edges, or None: the bound of [161] is taken at its word."""
+    many = len(charter[9])
+    delay = max([edge[3] for edge in edges(charter) if edge[2] == "basis"], default=0)
+    searches = [first_walks(charter, start, 4 * many + 3 * many * delay) for start in range(many)]
+    for levels in zip(*searches):
+        closed = [
+            walk for start, level in enumerate(levels) for (end, slack, backward, forward), walk in level.items()
+            if end == start and slack >= 0 and backward and forward
+        ]
+        if closed:
+            return min(closed)
+    return None
+
+
+def unsafe_starts(charter, cap=60):
+    """The types at which an unsafe cycle of any length starts; slacks beyond the cap count as the cap."""
+    all_edges = edges(charter)
+    starts = []
+    for start in range(len(charter[9])):
+        seen = {(start, 0, False, False)}
+        waiting = list(seen)
+        while waiting:
+            here, slack, backward, forward = waiting.pop()
+            for edge in all_edges:
+                if edge[0] == here:
+                    back = edge[2] == "basis"
+                    key = (edge[1], min(cap, slack + worth(edge)), backward or back, forward or not back)
+                    if key[1] >= -cap and key not in seen:
+                        seen.add(key)
+                        waiting.append(key)
+        if any(end == start and slack >= 0 and backward and forward for end, slack, backward, forward in seen):
+            starts.append(start)
+    return starts
+
+
+def depends_backward(charter, record, i, j):
+    return j < i and any(
+        record[j][0] == named and record[j][1] + delay <= record[i][1] for named, delay in charter[9][record[i][0]][2]
+    )
+
+
+def acts(charter, record, j, i, action):
+    """Whether entry j annuls, cures or ratifies entry i."""
+    place = {"annul": 3, "cure": 4, "ratify": 5}[action]
+    return i < j and record[j][4] == (action, i) and any(
+        record[j][0] == named and record[j][1] <= record[i][1] + within
+        for named, within in charter[9][record[i][0]][place]
+    )
+
+
+def depends(charter, record, i, j):
+    forward = any(acts(charter, record, j, i, action) for action in ("annul", "cure", "ratify"))
+    return forward or depends_backward(charter, record, i, j)
+
+
+def graph(charter, record):
+    numbers = range(len(record))
+    return [[j for j in numbers if depends(charter, record, i, j)] for i in numbers]
+
+
+def valid(charter, record, statuses, i):
+    """Whether an entry is valid under statuses [187]."""
+    kind, _, roll_call, basis, _, payload = record[i]
+    _, rule, named, _, _, ratified = charter[9][kind]
+    state = start_state(charter)
+    for j in range(i):
+        if statuses[j] and depends_backward(charter, record, i, j):
+            state = apply_payload(state, record[j][5])
+    good = [
+        item is None or (
+            statuses[item] and record[item][0] == named[place][0] and depends_backward(charter, record, i, item))
+        for place, item in enumerate(basis)
+    ]
+    cited = tuple(record[item][5] for place, item in enumerate(basis) if good[place] and item is not None)
+    procedural = all(good) and passes(rule, state[0], roll_call, parameters=state[1], premier=state[5])
+    acting = {
+        action: [j for j in range(len(record)) if statuses[j] and acts(charter, record, j, i, action)]
+        for action in ("annul", "cure", "ratify")
+    }
+    if not is_correct(charter, state, kind, payload, cited) or acting["annul"]:
+        return False
+    return (procedural or bool(acting["cure"])) and (not ratified or bool(acting["ratify"]))
+
+
+def all_consistent(charter, record):
+    """All consistent statuses, by trying all."""
+    found = []
+    for statuses in itertools.product((True, False), repeat=len(record)):
+        if all(valid(charter, record, statuses, i) == statuses[i] for i in range(len(record))):
+            found.append(statuses)
+    return tuple(found)
+
+
+def all_circles(needs):
+    """All circles that begin with their lowest number, by trying all paths."""
+    def along(path):
+        for other in needs[path[-1]]:
+            if other == path[0]:
+                yield path
+            elif other > path[0] and other not in path:
+                yield from along(path + (other,))
+    for start in range(len(needs)):
+        yield from along((start,))
+
+
+def first_circle(needs):
+    return min(all_circles(needs), key=lambda circle: (len(circle), circle), default=None)
+
+
+def reached(needs, start):
+    found = {start}
+    while True:
+        more = found | {other for entry in found for other in needs[entry]}
+        if more == found:
+            return found
+        found = more
