@@ -39,7 +39,7 @@ def settled_order(needs):
     for entry, needed in enumerate(needs):
         for other in needed:
             needed_by[other].append(entry)
-    missing = [len(needed) for needed in needs]
+    missing = [len(others) for others in needs]
     ready = [entry for entry, many in enumerate(missing) if many == 0]
     order = []
     while ready:

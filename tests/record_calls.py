@@ -2,13 +2,19 @@
 
 import random
 
+from gazette.assignments import assignments
+from gazette.bounds import finality, slack_bounds, verify_bounds
+from gazette.certificates import certificate, closure, impact, verify_certificate
 from gazette.charters import check_charter
 from gazette.circles import dependency_cycle, determined
+from gazette.counterexamples import counterexample, counterexample_of
 from gazette.cycles import analyze, determinate_types, verify_cycle
 from gazette.entries import cited, is_procedural, is_substantive, objections, revised, valid_under
 from gazette.errors import GazetteError
 from gazette.payloads import is_correct
+from gazette.pruning import prune
 from gazette.records import backward, check_record, forward
+from gazette.reversals import latest_reversal, reversal_walk
 from gazette.states import apply_payload, observed_state, start_state, state_after
 from gazette.validity import evaluation_order, final_state, history, is_consistent, rounds, validity, was_valid
 from samples import KINDS, some_charter, some_record, some_safe_charter
@@ -19,6 +25,7 @@ CIRCULAR = (
     entry(0, 0, basis=(None,)), entry(0, 1, basis=(0,), effect=("annul", 0)), entry(1, 1, basis=(None,)),
     entry(0, 1, basis=(None,)),
 )
+CURING = charter_of(entry_type(cured=((0, 4),)))
 NUMBERS = random.Random(6)
 SAFE = some_safe_charter(NUMBERS, 8, KINDS)
 RECORD = some_record(NUMBERS, SAFE, 16)
@@ -54,6 +61,12 @@ def calls_on(charter, record):
         (is_consistent, (charter, record, statuses), {}),
         (rounds, (charter, record, statuses), {}),
         (evaluation_order, (charter, record), {}),
+        (prune, (charter, record, statuses), {}),
+        (counterexample, (charter,), {}),
+        (slack_bounds, (charter,), {}),
+        (verify_bounds, (charter, slack_bounds(charter)), {}),
+        (closure, (charter, record, 0), {}),
+        (verify_certificate, (charter, record, 0, ((0, True), (1, False))), {}),
     ]
 
 
@@ -63,6 +76,16 @@ CALLS_ON_RECORDS = calls_on(SAFE, RECORD) + calls_on(UNSAFE, CIRCULAR) + calls_o
     (was_valid, (SAFE, RECORD, 9, 3), {}),
     (was_valid, (UNSAFE, CIRCULAR, 1, 0), {}),
     (history, (SAFE, RECORD, 2), {}),
+    (assignments, (SAFE, RECORD), {}),
+    (assignments, (UNSAFE, CIRCULAR), {}),
+    (counterexample_of, (UNSAFE, (0, 1)), {}),
+    (finality, (SAFE,), {}),
+    (reversal_walk, (CURING, 0), {"sitting": 6}),
+    (latest_reversal, (CURING, 0), {"sitting": 6}),
+    (latest_reversal, (CURING, 0), {}),
+    (certificate, (SAFE, RECORD, 5), {}),
+    (certificate, (UNSAFE, CIRCULAR, 2), {}),
+    (impact, (SAFE, RECORD, 0, "annul", 15), {}),
 ]
 REFUSED_ON_RECORDS = [
     (check_record, (SAFE, (entry(8),)), {}),
@@ -72,6 +95,13 @@ REFUSED_ON_RECORDS = [
     (final_state, (UNSAFE, CIRCULAR), {}),
     (was_valid, (UNSAFE, CIRCULAR, 2, 0), {}),
     (history, (UNSAFE, CIRCULAR, 3), {}),
+    (assignments, (UNSAFE, CIRCULAR[:2] + CIRCULAR[3:] * 7), {}),
+    (counterexample_of, (UNSAFE, (1, 1)), {}),
+    (finality, (UNSAFE,), {}),
+    (reversal_walk, (UNSAFE, 0), {}),
+    (latest_reversal, (UNSAFE, 0), {"sitting": 3}),
+    (certificate, (UNSAFE, CIRCULAR, 3), {}),
+    (impact, (UNSAFE, CIRCULAR, 0, "cure", 3), {}),
 ]
 
 

@@ -145,3 +145,102 @@ def reached(needs, start):
         if more == found:
             return found
         found = more
+
+
+def made_along(charter, walk, sittings, ranks, is_closed):
+    """The entries along the edges of a cycle [220] or of a reversal walk [243], with their ratifications."""
+    members, types = charter[0], charter[9]
+    walked = [edges(charter)[number] for number in walk]
+    many = len(walked)
+    listing = []
+    for i in sorted(range(many), key=lambda i: (sittings[i], ranks[i], i)):
+        listing.append(("entry", i))
+        if types[walked[i][0]][5] and walked[i][2] != "ratify":
+            listing.append(("ratification", i))
+    place = {item: number for number, item in enumerate(listing)}
+    record = []
+    for what, i in listing:
+        source, target, kind, _ = walked[i]
+        if what == "ratification":
+            other = types[source][5][0][0]
+            basis = (None,) * len(types[other][2])
+            record.append((other, sittings[i], "Y" * members, basis, ("ratify", place["entry", i]), None))
+            continue
+        basis = [None for _ in types[source][2]]
+        for at, (named, _) in enumerate(types[source][2]):
+            if kind == "basis" and named == target:
+                basis[at] = place["entry", (i + 1) % many]
+        before = i - 1 if i > 0 else many - 1
+        has_effect = walked[before][2] != "basis" and (is_closed or i > 0)
+        effect = (walked[before][2], place["entry", before]) if has_effect else None
+        record.append((source, sittings[i], ("-" if kind == "cure" else "Y") * members, tuple(basis), effect, None))
+    return tuple(record), place
+
+
+def counterexample(charter, cycle):
+    """The record of [220]."""
+    walked = [edges(charter)[number] for number in cycle]
+    backward = [edge[3] for edge in walked if edge[2] == "basis"]
+    to_make_up, sitting, sittings = sum(backward), 0, []
+    for edge in walked:
+        sittings.append(sitting)
+        step = min(edge[3], to_make_up)
+        if edge[2] == "basis":
+            sitting -= edge[3]
+        else:
+            sitting += step
+            to_make_up -= step
+    many_backward, many_forward = len(backward), len(walked) - len(backward)
+    ranks = [
+        many_backward * len([edge for edge in walked[:i] if edge[2] != "basis"])
+        - many_forward * len([edge for edge in walked[:i] if edge[2] == "basis"]) for i in range(len(walked))
+    ]
+    return made_along(charter, cycle, [sitting - min(sittings) for sitting in sittings], ranks, True)[0]
+
+
+def reversal(charter, walk):
+    """What [243] makes of a reversal walk: the record, the number of walk entry 0, and what is appended."""
+    walked = [edges(charter)[number] for number in walk]
+    sittings = [sum(map(worth, walked[:i])) for i in range(len(walked) + 1)]
+    sittings = [sitting - min(sittings) for sitting in sittings]
+    ranks = [sum(-1 if edge[2] == "basis" else 1 for edge in walked[:i]) for i in range(len(walked))]
+    record, place = made_along(charter, walk, sittings, ranks, False)
+    _, target, kind, _ = walked[-1]
+    basis, ratified = [charter[9][target][part] for part in (2, 5)]
+    roll_call, effect = "Y" * charter[0], (kind, place["entry", len(walked) - 1])
+    appended = [(target, sittings[-1], roll_call, (None,) * len(basis), effect, None)]
+    for other, _ in ratified[:1]:
+        basis = (None,) * len(charter[9][other][2])
+        appended.append((other, sittings[-1], roll_call, basis, ("ratify", len(record)), None))
+    return record, place["entry", 0], tuple(appended)
+
+
+def first_forward_walk(charter, start, least):
+    """The first one of the walks with a forward edge, a slack of at least `least` and the fewest edges."""
+    for level in first_walks(charter, start, 400):
+        fitting = [walk for (_, slack, _, forward), walk in level.items() if forward and slack >= least]
+        if fitting:
+            return min(fitting)
+    return None
+
+
+def slack_bounds(charter):
+    """The slack bounds, from walks with so many edges that a type is seen to be unbounded."""
+    many = len(charter[9])
+    most, forward = [0] * many, [None] * many
+    layers = []
+    for _ in range(40 * many):
+        longer, longer_forward = list(most), list(forward)
+        for source, target, kind, sittings in edges(charter):
+            slack = -sittings if kind == "basis" else sittings
+            longer[source] = max(longer[source], most[target] + slack)
+            rest = forward[target] if kind == "basis" else most[target]
+            if rest is not None:
+                best = rest + slack
+                longer_forward[source] = best if longer_forward[source] is None else max(best, longer_forward[source])
+        most, forward = longer, longer_forward
+        layers.append(list(zip(most, forward)))
+    few, last = layers[many - 1], layers[-1]
+    return tuple(
+        ("unbounded", "unbounded") if last[number][0] > few[number][0] else few[number] for number in range(many)
+    )

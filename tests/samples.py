@@ -132,3 +132,15 @@ def small_charters(numbers, tries, most=3):
             entry_type(basis=pairs(0.4, 0, delay), annulled=pairs(often, 1, deadline), cured=pairs(often / 2, 1, deadline))
             for _ in range(many)
         ])
+
+
+def ratified_charters(numbers, tries, most=3):
+    """The same, with one type more, which must ratify the entries of some of the others."""
+    for charter in small_charters(numbers, tries, most):
+        entry_types = list(charter[9])
+        for number in range(len(entry_types)):
+            if numbers.random() < 0.3:
+                ratified = ((len(entry_types), numbers.randint(1, 2)),)
+                entry_types[number] = entry_types[number][:5] + (ratified,)
+        last = some_dependencies(numbers, len(entry_types), 1, 0, 3)
+        yield charter_of(*entry_types, entry_type(basis=last))

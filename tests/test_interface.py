@@ -189,6 +189,27 @@ SIGNATURES = {
         "was_valid": "(charter, record, length, entry)",
         "history": "(charter, record, entry)",
     },
+    "assignments": {"assignments": "(charter, record)"},
+    "pruning": {"prune": "(charter, record, statuses)"},
+    "counterexamples": {
+        "counterexample_of": "(charter, numbers)",
+        "counterexample": "(charter)",
+    },
+    "bounds": {
+        "slack_bounds": "(charter)",
+        "verify_bounds": "(charter, bounds)",
+        "finality": "(charter)",
+    },
+    "reversals": {
+        "reversal_walk": "(charter, number, *, sitting=0)",
+        "latest_reversal": "(charter, number, *, sitting=0)",
+    },
+    "certificates": {
+        "closure": "(charter, record, entry)",
+        "certificate": "(charter, record, entry)",
+        "verify_certificate": "(charter, record, entry, certificate)",
+        "impact": "(charter, record, number, action, entry)",
+    },
 }
 
 

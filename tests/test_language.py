@@ -11,7 +11,7 @@ PACKAGE = Path(__file__).resolve().parent.parent / "gazette"
 
 BUILTINS = set(
     "len range enumerate zip min max sum abs sorted reversed int str bool bytes list tuple dict set frozenset"
-    " isinstance ord repr any all divmod pow iter next ValueError NotImplemented super".split()
+    " isinstance ord repr any all divmod pow iter next ValueError NotImplemented super property".split()
 )
 METHODS = set(
     "append clear copy count endswith extend find get index insert isalnum isalpha isdigit islower isspace isupper"
@@ -180,8 +180,9 @@ class LanguageTest(unittest.TestCase):
         told = docstrings(tree)
         for node in ast.walk(tree):
             self.assertNotIsInstance(node, NOT_USED)
-            if isinstance(node, ast.FunctionDef):
-                self.assertEqual(node.decorator_list, [])
+            if isinstance(node, ast.FunctionDef) and node.decorator_list:
+                self.assertEqual(list(map(ast.unparse, node.decorator_list)), ["property"])
+                self.check_property(node)
             if isinstance(node, ast.Constant):
                 self.assertNotIsInstance(node.value, (float, complex))
                 if isinstance(node.value, str) and id(node) not in told:
@@ -190,6 +191,19 @@ class LanguageTest(unittest.TestCase):
                 self.assertIn(ast.unparse(node.comparators[0]), ("None", "True", "False"))
             if isinstance(node, ast.Raise) and node.exc:
                 self.assertIsInstance(node.exc, ast.Call)
+
+    def check_property(self, node):
+        """A property only tells what an attribute has: it changes and calls nothing."""
+        self.assertIsInstance(node.around, ast.ClassDef)
+        self.assertEqual([type(statement) for statement in node.body], [ast.Expr, ast.Return])
+        self.assertEqual([inner for inner in ast.walk(node) if called(inner) not in (None, "len")], [])
+
+    def test_a_class_with_a_length(self):
+        """What a class with `__len__` bars from the whole package."""
+        for source in sources().values():
+            for node in ast.walk(parsed(source)):
+                self.assertNotIsInstance(node, ast.Try)
+                self.assertNotIn(called(node), ("sort", "product", "combinations", "permutations"))
 
     @for_each_file
     def test_words(self, source, tree):

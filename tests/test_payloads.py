@@ -76,12 +76,15 @@ class SeatsTest(PayloadCase):
 class ParametersTest(PayloadCase):
     def test_parameters(self):
         self.correct(("parameters", ((0, 1000), (1, 0), (1, 5))))
+        self.correct(("parameters", ((1, 7),)))
         self.wrong(("parameters", ((2, 0),)))
         self.wrong(("parameters", ((0, 0), (7, 0))))
 
-    def test_a_charter_without_parameters(self):
+    def test_other_numbers_of_parameters(self):
         charter = charter_of(entry_type())
         self.wrong(("parameters", ((0, 0),)), charter=charter, before=start_state(charter))
+        charter = charter_of(entry_type(), parameters=(0,) * 8)
+        self.correct(("parameters", ((7, 0),)), charter=charter, before=start_state(charter))
 
 
 class StatuteTest(PayloadCase):
@@ -273,6 +276,9 @@ class PaymentsTest(PayloadCase):
         self.wrong(("payments", ((1, 1), (0, 0))))
         charter = charter_of(entry_type(), appropriations=(4,))
         self.correct(("payments", ((0, 4),)), charter=charter, before=start_state(charter))
+        charter = charter_of(entry_type(), tree=(0, 1), appropriations=(4, 4, 4))
+        self.wrong(("payments", ((1, 4),)), charter=charter, before=start_state(charter))
+        self.correct(("payments", ((2, 4),)), charter=charter, before=start_state(charter))
 
     def test_nodes_that_do_not_exist(self):
         self.wrong(("payments", ((3, 0),)))

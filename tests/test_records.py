@@ -205,6 +205,8 @@ class ForwardTest(Case):
         record = (entry(basis=(None,)), entry(basis=(None,), effect=("annul", 0)))
         self.same((backward(charter, record, 0), forward(charter, record, 0)), ((), (1,)))
         self.same((backward(charter, record, 1), forward(charter, record, 1)), ((0,), ()))
+        record += (entry(0, 2, basis=(None,), effect=("annul", 1)),)
+        self.same((backward(charter, record, 1), forward(charter, record, 1)), ((0,), (2,)))
 
 
 class ReferenceTest(Case):

@@ -216,6 +216,7 @@ CALLS += TEXTS + CONFERENCE + TIMES + BUDGETS + CHARTERS + CALLS_ON_RECORDS
 ERRORS = (
     "(NotReadOnce", "(NotInOrder", "(Conflicting", "(TotalsDiffer", "(BadSeats", "(BadAmounts", "(BadPremier",
     "(BadDependency", "(MissingDependency", "(BadRule", "(BadEntry", "(SittingOutOfOrder", "(CircularRecord",
+    "(TooManyOpen", "(NotUnsafe", "(UnsafeCharter", "(NotDetermined",
 )
 
 
