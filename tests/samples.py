@@ -129,8 +129,9 @@ def small_charters(numbers, tries, most=3):
             return tuple((other, numbers.randint(low, high)) for other in range(many) if numbers.random() < chance)
 
         yield charter_of(*[
-            entry_type(basis=pairs(0.4, 0, delay), annulled=pairs(often, 1, deadline), cured=pairs(often / 2, 1, deadline))
-            for _ in range(many)
+            entry_type(
+                basis=pairs(0.4, 0, delay), annulled=pairs(often, 1, deadline), cured=pairs(often / 2, 1, deadline),
+            ) for _ in range(many)
         ])
 
 

@@ -129,3 +129,9 @@ def charter_of(
 def entry(number=0, sitting=0, roll_call="YYY", basis=(), effect=None, payload=None):
     """An entry of a record."""
     return (number, sitting, roll_call, basis, effect, payload)
+
+
+def chain(sittings, basis=(), action="annul"):
+    """Entries of type 0 in these sittings, each of which acts on the one before it."""
+    effects = [None] + [(action, number) for number in range(len(sittings) - 1)]
+    return tuple(entry(0, sitting, basis=basis, effect=effect) for sitting, effect in zip(sittings, effects))

@@ -46,7 +46,9 @@ class AssignmentsTest(Case):
     def test_several_in_their_order(self):
         self.same(assignments(CURED, pairs(1)), ((True, True), (False, False)))
         self.same(assignments(CURED, pairs(2)), (
-            (True, True, True, True), (True, True, False, False), (False, False, True, True), (False, False, False, False)))
+            (True, True, True, True), (True, True, False, False),
+            (False, False, True, True), (False, False, False, False),
+        ))
 
     def test_the_first_difference_counts(self):
         # Of two entries each is annulled by the other one's cure, so exactly one of them is valid.

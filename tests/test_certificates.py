@@ -10,7 +10,7 @@ from gazette.circles import determined
 from gazette.errors import CircularRecord, GazetteError, NotDetermined
 from gazette.validity import validity
 from samples import KINDS, some_charter, some_record, some_safe_charter
-from support import Case, charter_of, entry, entry_type
+from support import Case, chain, charter_of, entry, entry_type
 
 SINGLE = charter_of(entry_type(annulled=((0, 2),)))
 # Entry 3 annuls entry 1, which annuls entry 0; entry 2 stands alone.
@@ -25,7 +25,9 @@ class ClosureTest(Case):
 
     def test_backward(self):
         charter = charter_of(entry_type(basis=((1, 2),)), entry_type(basis=((2, 0),)), entry_type())
-        record = (entry(2), entry(1, 0, basis=(None,)), entry(2, 1), entry(0, 2, basis=(None,)), entry(1, 2, basis=(None,)))
+        record = (
+            entry(2), entry(1, 0, basis=(None,)), entry(2, 1), entry(0, 2, basis=(None,)), entry(1, 2, basis=(None,)),
+        )
         self.same([closure(charter, record, number) for number in range(5)], [
             (0,), (0, 1), (2,), (0, 1, 3), (0, 2, 4)])
 
@@ -34,7 +36,7 @@ class ClosureTest(Case):
         self.same([closure(HASTY, record, number) for number in range(3)], [(0, 2), (1,), (0, 2)])
 
     def test_40_entries(self):
-        record = (entry(),) + tuple(entry(0, number, effect=("annul", number - 1)) for number in range(1, 40))
+        record = chain(range(40))
         self.same(closure(SINGLE, record, 0), tuple(range(40)))
         self.same(closure(SINGLE, record, 38), (38, 39))
 
@@ -62,7 +64,8 @@ class CertificateTest(Case):
 
     def test_an_entry_that_is_not_determined(self):
         record = (
-            entry(0, 0, basis=(None,)), entry(1), entry(0, 0, basis=(None,), effect=("annul", 0)), entry(0, 1, basis=(None,)),
+            entry(0, 0, basis=(None,)), entry(1), entry(0, 0, basis=(None,), effect=("annul", 0)),
+            entry(0, 1, basis=(None,)),
         )
         for number in (0, 2, 3):
             self.refused(HASTY, record, number)
@@ -153,7 +156,7 @@ class VerifyTest(Case):
             self.check(False, ((0, one), (1, other)), charter=HASTY, record=record)
 
     def test_40_pairs(self):
-        record = (entry(),) + tuple(entry(0, number, effect=("annul", number - 1)) for number in range(1, 40))
+        record = chain(range(40))
         pairs = tuple(enumerate((False, True) * 20))
         self.check(True, pairs, record=record)
         self.check(False, pairs[:-1] + ((39, False),), record=record)
@@ -228,7 +231,7 @@ class ImpactTest(Case):
         self.same(impact(charter, record + (entry(0, 8),), 1, "annul", 0), (3,))
 
     def test_a_record_of_40_entries(self):
-        record = (entry(),) + tuple(entry(0, number, effect=("annul", number - 1)) for number in range(1, 40))
+        record = chain(range(40))
         self.same(impact(SINGLE, record, 0, "annul", 39), tuple(range(41)))
         self.same(impact(SINGLE, record, 0, "annul", 38), (40,))
         ratified = charter_of(entry_type(annulled=((1, 2),)), entry_type(ratified=((2, 1),)), entry_type())
@@ -250,9 +253,7 @@ class ImpactTest(Case):
         slow = charter_of(
             entry_type(basis=((0, 2),), annulled=((0, 1),)), entry_type(basis=((1, 0),), annulled=((1, 1),)),
         )
-        record = tuple(
-            entry(0, number, basis=(None,), effect=None if number == 0 else ("annul", number - 1)) for number in range(3)
-        ) + (entry(1, 2, basis=(None,)),)
+        record = chain(range(3), (None,)) + (entry(1, 2, basis=(None,)),)
         self.circular((0, 1, 2), slow, record, 1, "cure", 3)
         # The record with the new entry has a circle with fewer entries than the record.
         self.circular((3, 4), slow, record, 1, "annul", 3)

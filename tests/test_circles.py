@@ -9,7 +9,7 @@ from gazette.circles import dependency_cycle, determined
 from gazette.cycles import verify_cycle
 from gazette.records import check_record
 from samples import KINDS, some_charter, some_record, some_safe_charter
-from support import Case, charter_of, entry, entry_type
+from support import Case, chain, charter_of, entry, entry_type
 
 # An entry annuls one on which it may be based. Edges: 0 to 0, backward (0) and forward (1).
 HASTY = charter_of(entry_type(basis=((0, 0),), annulled=((0, 2),)))
@@ -21,12 +21,6 @@ ROUND = charter_of(
 )
 
 
-def chain(*sittings):
-    """Entries under HASTY, each of which annuls the one before it."""
-    entries = [entry(0, sitting, basis=(None,), effect=("annul", number - 1)) for number, sitting in enumerate(sittings)]
-    return (entry(0, sittings[0], basis=(None,)), *entries[1:])
-
-
 class DependencyCycleTest(Case):
     def circle(self, charter, record, expected, numbers):
         check_record(charter, record)
@@ -36,7 +30,7 @@ class DependencyCycleTest(Case):
     def test_no_circle(self):
         self.same(dependency_cycle(HASTY, ()), None)
         self.same(dependency_cycle(HASTY, (entry(basis=(None,)),)), None)
-        self.same(dependency_cycle(HASTY, chain(0, 3, 6)), None)
+        self.same(dependency_cycle(HASTY, chain((0, 3, 6), (None,))), None)
         single = charter_of(entry_type(annulled=((0, 2),)))
         record = (entry(), entry(effect=("annul", 0)), entry(effect=("annul", 1)), entry(effect=("annul", 0)))
         self.same(dependency_cycle(single, record), None)
@@ -47,11 +41,11 @@ class DependencyCycleTest(Case):
         self.same(dependency_cycle(charter, (entry(basis=(None,)), entry(basis=(0,)))), None)
 
     def test_a_circle_of_two(self):
-        self.circle(HASTY, chain(0, 2), (0, 1), (1, 0))
-        self.circle(HASTY, chain(0, 3, 5), (1, 2), (1, 0))
+        self.circle(HASTY, chain((0, 2), (None,)), (0, 1), (1, 0))
+        self.circle(HASTY, chain((0, 3, 5), (None,)), (1, 2), (1, 0))
 
     def test_a_circle_of_two_along_edges_with_other_numbers(self):
-        # The cure is edge 3, the annulment edge 2.
+        # Edges: 0 to 1 backward (0), 0 to 0 (1), 0 to 1 cured (2), 1 to 1 (3), 1 to 0 backward (4).
         charter = charter_of(
             entry_type(basis=((1, 4),), annulled=((0, 1),), cured=((1, 5),)), entry_type(basis=((1, 0), (0, 2))),
         )
@@ -60,9 +54,7 @@ class DependencyCycleTest(Case):
 
     def test_a_circle_of_three_and_more(self):
         delayed = charter_of(entry_type(basis=((0, 3),), annulled=((0, 1),)))
-        record = tuple(
-            entry(0, number, basis=(None,), effect=None if number == 0 else ("annul", number - 1)) for number in range(4)
-        )
+        record = chain(range(4), (None,))
         self.circle(delayed, record, (0, 1, 2, 3), (1, 1, 1, 0))
         self.same(dependency_cycle(delayed, record[:3]), None)
         half = charter_of(entry_type(basis=((0, 2),), annulled=((0, 1),)))
@@ -70,14 +62,15 @@ class DependencyCycleTest(Case):
 
     def test_several_kinds_of_edges(self):
         record = (
-            entry(0, 0, basis=(None, None)), entry(1, 3, effect=("cure", 0)), entry(2, 4, basis=(0,), effect=("cure", 1)),
+            entry(0, 0, basis=(None, None)), entry(1, 3, effect=("cure", 0)),
+            entry(2, 4, basis=(0,), effect=("cure", 1)),
         )
         self.circle(ROUND, record, (0, 1, 2), (3, 5, 6))
 
     def test_several_with_the_fewest_entries(self):
-        self.circle(HASTY, chain(0, 1, 2), (0, 1), (1, 0))
-        self.circle(HASTY, chain(0, 3, 4, 5), (1, 2), (1, 0))
-        record = chain(0, 1) + (entry(0, 1, basis=(None,), effect=("annul", 0)),)
+        self.circle(HASTY, chain((0, 1, 2), (None,)), (0, 1), (1, 0))
+        self.circle(HASTY, chain((0, 3, 4, 5), (None,)), (1, 2), (1, 0))
+        record = chain((0, 1), (None,)) + (entry(0, 1, basis=(None,), effect=("annul", 0)),)
         self.circle(HASTY, record, (0, 1), (1, 0))
         self.circle(HASTY, (record[0], entry(0, 1, basis=(None,)), record[2]), (0, 2), (1, 0))
 
@@ -93,20 +86,16 @@ class DependencyCycleTest(Case):
 
     def test_a_shorter_one_with_higher_numbers(self):
         charter = charter_of(
-            entry_type(basis=((0, 2),), annulled=((0, 1),)), entry_type(basis=((1, 0),), annulled=((1, 0 + 1),)),
+            entry_type(basis=((0, 2),), annulled=((0, 1),)), entry_type(basis=((1, 0),), annulled=((1, 1),)),
         )
-        slow = [
-            entry(0, number, basis=(None,), effect=None if number == 0 else ("annul", number - 1)) for number in range(3)
-        ]
-        record = (*slow, entry(1, 2, basis=(None,)), entry(1, 2, basis=(None,), effect=("annul", 3)))
+        record = chain(range(3), (None,)) + (
+            entry(1, 2, basis=(None,)), entry(1, 2, basis=(None,), effect=("annul", 3)),
+        )
         self.circle(charter, record, (3, 4), (3, 2))
 
     def test_the_whole_record_of_40_entries(self):
         charter = charter_of(entry_type(basis=((0, 12),), cured=((0, 1),)))
-        record = tuple(
-            entry(0, number // 3, basis=(None,), effect=None if number == 0 else ("cure", number - 1))
-            for number in range(40)
-        )
+        record = chain([number // 3 for number in range(40)], (None,), "cure")
         # Entry 36 is the first one that is 12 sittings later than any other, and entry 2 the last one that early.
         self.circle(charter, record, tuple(range(2, 37)), (1,) * 34 + (0,))
 
@@ -145,13 +134,13 @@ class DependencyCycleTest(Case):
 class DeterminedTest(Case):
     def test_all_determined(self):
         self.same(determined(HASTY, ()), ())
-        self.same(determined(HASTY, chain(0, 3, 6)), (True, True, True))
+        self.same(determined(HASTY, chain((0, 3, 6), (None,))), (True, True, True))
         single = charter_of(entry_type(annulled=((0, 2),)))
         record = (entry(), entry(effect=("annul", 0)), entry(effect=("annul", 1)))
         self.same(determined(single, record), (True, False, True))
 
     def test_none_determined(self):
-        self.same(determined(HASTY, chain(0, 1)), (None, None))
+        self.same(determined(HASTY, chain((0, 1), (None,))), (None, None))
 
     def test_entries_from_which_a_circle_can_be_reached_and_others(self):
         # Type 1 is based on type 0; type 2 depends on nothing; type 0 is not based on either.
@@ -159,9 +148,9 @@ class DeterminedTest(Case):
             entry_type(basis=((0, 0),), annulled=((0, 2), (2, 9))), entry_type(basis=((0, 0), (1, 1))), entry_type(),
         )
         record = (
-            entry(1, 0, basis=(None, None)), entry(0, 1, basis=(None,)), entry(0, 1, basis=(None,), effect=("annul", 1)),
-            entry(1, 1, basis=(None, None)), entry(2, 2, "N--"), entry(1, 2, basis=(None, None), effect=("annul", 1)),
-            entry(2, 3, effect=("annul", 1)),
+            entry(1, 0, basis=(None, None)), entry(0, 1, basis=(None,)),
+            entry(0, 1, basis=(None,), effect=("annul", 1)), entry(1, 1, basis=(None, None)), entry(2, 2, "N--"),
+            entry(1, 2, basis=(None, None), effect=("annul", 1)), entry(2, 3, effect=("annul", 1)),
         )
         self.same(dependency_cycle(charter, record)[0], (1, 2))
         self.same(determined(charter, record), (True, None, None, None, False, None, True))

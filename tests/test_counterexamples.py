@@ -100,7 +100,9 @@ class CounterexampleOfTest(CounterexampleCase):
             ), (True, True, False, True), (False, False, True, False))
 
     def test_the_place_of_the_edge_in_the_basis(self):
-        charter = charter_of(entry_type(basis=((2, 5), (1, 2), (0, 0)), cured=((1, 1),)), entry_type(cured=((0, 3),)), PLAIN)
+        charter = charter_of(
+            entry_type(basis=((2, 5), (1, 2), (0, 0)), cured=((1, 1),)), entry_type(cured=((0, 3),)), PLAIN,
+        )
         self.made(
             charter, (1, 4), (entry(1, 0, NOBODY), entry(0, 2, basis=(None, 0, None), effect=("cure", 0))),
             (True, True), (False, False))
@@ -144,8 +146,8 @@ class CounterexampleOfTest(CounterexampleCase):
                 entry_type(basis=((1, 1),)), entry_type(cured=((0, 1),)), members=members, seats=((0,),),
             )
             self.made(
-                charter, (0, 1),
-                (entry(1, 0, "-" * members), entry(0, 1, "Y" * members, (0,), ("cure", 0))), (True, True), (False, False))
+                charter, (0, 1), (entry(1, 0, "-" * members), entry(0, 1, "Y" * members, (0,), ("cure", 0))),
+                (True, True), (False, False))
 
     def test_no_unsafe_cycle(self):
         charter = charter_of(entry_type(basis=((1, 3), (0, 0)), annulled=((0, 2),)), entry_type(cured=((0, 2),)))

@@ -55,15 +55,19 @@ class ReportedRankingTest(CyclesCase):
 
     def test_components_are_numbers_of_types_reached(self):
         charter = charter_of(
-            entry_type(basis=((1, 1),), cured=((2, 1),)), entry_type(annulled=((2, 3),)), PLAIN, entry_type(cured=((3, 1),)),
+            entry_type(basis=((1, 1),), cured=((2, 1),)), entry_type(annulled=((2, 3),)), PLAIN,
+            entry_type(cured=((3, 1),)),
         )
         self.safe(charter, (3, "backward", 0), (2, "backward", 0), (1, "backward", 0), (1, "forward", 0))
 
     def test_directions(self):
-        self.safe(charter_of(
+        charter = charter_of(
             entry_type(basis=((1, 0),)), entry_type(basis=((0, 4),)), entry_type(annulled=((3, 1),), basis=((0, 1),)),
             entry_type(cured=((2, 2),), basis=((4, 1),)), entry_type(basis=((5, 2),)), entry_type(ratified=((4, 1),)),
-        ), (2, "backward", 0), (2, "backward", 0), (6, "forward", 0), (6, "forward", 0), (2, "mixed", -8), (2, "mixed", 0))
+        )
+        self.safe(
+            charter, (2, "backward", 0), (2, "backward", 0), (6, "forward", 0), (6, "forward", 0), (2, "mixed", -8),
+            (2, "mixed", 0))
 
     def test_potentials(self):
         # Two types, so N is 3: a forward edge weighs -3 * within - 1, a backward edge 3 * delay.

@@ -113,7 +113,9 @@ class SubstantiveTest(EntriesCase):
             entry(0, 0, basis=(None,), payload=one), entry(2, 0, payload=other),
             entry(1, 1, basis=(0, 1), payload=("report", ("a",), ((0, ("a",), ()),))),
         )
-        for statuses, expected in (((True, True, True), True), ((True, False, True), False), ((False, True, True), False)):
+        for statuses, expected in (
+            ((True, True, True), True), ((True, False, True), False), ((False, True, True), False),
+        ):
             self.same(is_substantive(charter, record, statuses, 2), expected)
         younger = record[:2] + (entry(1, 0, basis=(0, 1), payload=record[2][5]),)
         self.same(is_substantive(charter, younger, (True,) * 3, 2), False)
@@ -220,8 +222,8 @@ class ObjectionsTest(EntriesCase):
 
     def test_all_of_them_in_their_order(self):
         self.told(
-            self.record, (True, True, True, True, False, False, True), 2, PAYLOAD, ("basis", 1), ("basis", 2), ROLL_CALL,
-            RATIFICATION, ("annulled", 3), ("annulled", 6),
+            self.record, (True, True, True, True, False, False, True), 2, PAYLOAD, ("basis", 1), ("basis", 2),
+            ROLL_CALL, RATIFICATION, ("annulled", 3), ("annulled", 6),
         )
 
     def test_without_those_that_a_cure_takes_away(self):
@@ -230,7 +232,8 @@ class ObjectionsTest(EntriesCase):
 
     def test_its_own_status_makes_no_difference(self):
         for status in (True, False):
-            self.told(self.record[:3], (True, True, status), 2, PAYLOAD, ("basis", 1), ("basis", 2), ROLL_CALL, RATIFICATION)
+            statuses = (True, True, status)
+            self.told(self.record[:3], statuses, 2, PAYLOAD, ("basis", 1), ("basis", 2), ROLL_CALL, RATIFICATION)
 
     def test_no_objections(self):
         self.told(self.record, (True,) * 7, 0)
@@ -251,7 +254,8 @@ class RevisedTest(EntriesCase):
         numbers = random.Random(187)
         kinds = {True: 0, False: 0}
         for _ in range(400):
-            charter = some_charter(numbers, numbers.randint(1, 5), numbers.choice((KINDS, ("none", "seats"), ("none",))))
+            payloads = numbers.choice((KINDS, ("none", "seats"), ("none",)))
+            charter = some_charter(numbers, numbers.randint(1, 5), payloads)
             record = some_record(numbers, charter, 10)
             statuses = tuple(numbers.random() < 0.7 for _ in record)
             expected = [reference.valid(charter, record, statuses, number) for number in range(10)]

@@ -31,7 +31,7 @@ class PruneTest(Case):
 
     def test_entries_are_left_as_they_are(self):
         record = (
-            entry(2, 7, "N-P", payload=("bill", ("a",), (), ())), entry(1, 7, "---"), entry(2, 9, "P-N", (), None, None),
+            entry(2, 7, "N-P", payload=("bill", ("a",), (), ())), entry(1, 7, "---"), entry(2, 9, "P-N"),
         )
         self.pruned(record, (True, False, True), record[0], record[2])
 

@@ -12,7 +12,7 @@ from support import Case, charter_of, entry, entry_type
 
 # Type 0 is based on types 0 and 1; type 2 has bills.
 CHARTER = charter_of(
-    entry_type("seats", ("yeas", 0, 2), basis=((0, 0), (1, 3)), annulled=((1, 2),), cured=((0, 4),), ratified=((2, 1),)),
+    entry_type("seats", ("yeas", 0, 2), ((0, 0), (1, 3)), annulled=((1, 2),), cured=((0, 4),), ratified=((2, 1),)),
     entry_type(annulled=((1, 2), (0, 5))),
     entry_type("bill"),
 )

@@ -9,7 +9,7 @@ from gazette.circles import dependency_cycle
 from gazette.errors import CircularRecord, GazetteError
 from gazette.validity import evaluation_order, final_state, history, is_consistent, rounds, validity, was_valid
 from samples import KINDS, some_charter, some_record, some_safe_charter
-from support import Case, charter_of, entry, entry_type
+from support import Case, chain, charter_of, entry, entry_type
 
 SINGLE = charter_of(entry_type(annulled=((0, 2),)))
 RULINGS = (entry(), entry(effect=("annul", 0)), entry(effect=("annul", 1)))
@@ -58,8 +58,9 @@ class ConsistentTest(Case):
         self.same(is_consistent(cured, record, (True, True)), True)
         self.same(is_consistent(cured, record, (False, False)), True)
         self.same(is_consistent(cured, record, (True, False)), False)
-        for one, other in ((True, True), (True, False), (False, True), (False, False)):
-            self.same(is_consistent(HASTY, (QUARREL[0], entry(0, 0, basis=(0,), effect=("annul", 0))), (one, other)), False)
+        record = (QUARREL[0], entry(0, 0, basis=(0,), effect=("annul", 0)))
+        for statuses in ((True, True), (True, False), (False, True), (False, False)):
+            self.same(is_consistent(HASTY, record, statuses), False)
 
 
 class RoundsTest(Case):
@@ -95,7 +96,8 @@ class EvaluationOrderTest(Case):
 
     def test_the_lowest_number_that_can_stand_at_each_place(self):
         record = (
-            entry(), entry(), entry(effect=("annul", 0)), entry(), entry(effect=("annul", 1)), entry(effect=("annul", 2)),
+            entry(), entry(), entry(effect=("annul", 0)), entry(), entry(effect=("annul", 1)),
+            entry(effect=("annul", 2)),
         )
         self.same(evaluation_order(SINGLE, record), (3, 4, 1, 5, 2, 0))
         record = (entry(), entry(), entry(effect=("annul", 1)), entry(effect=("annul", 0)), entry(effect=("annul", 2)))
@@ -141,7 +143,7 @@ class ValidityTest(CircleCase):
         self.same(validity(HASTY, QUARREL[:2]), (True, True))
 
     def test_40_entries_that_hang_on_each_other(self):
-        record = (entry(),) + tuple(entry(0, number, effect=("annul", number - 1)) for number in range(1, 40))
+        record = chain(range(40))
         self.same(validity(SINGLE, record), (False, True) * 20)
         self.same(validity(SINGLE, record[:39]), (True,) + (False, True) * 19)
 
@@ -166,8 +168,8 @@ class FinalStateTest(CircleCase):
         payment = entry(1, 0, basis=(None, None), payload=("payments", ((1, 4), (2, 1))))
         self.same(final_state(TREASURY, (payment,))[3], (3, 0, 0))
         self.same(final_state(TREASURY, (payment, payment))[3], (3, 0, 0))
-        self.same(final_state(TREASURY, (payment, entry(1, 0, basis=(None, None), payload=("payments", ((1, 3),)))))[3], (
-            0, 0, 0))
+        other = entry(1, 0, basis=(None, None), payload=("payments", ((1, 3),)))
+        self.same(final_state(TREASURY, (payment, other))[3], (0, 0, 0))
 
     def test_what_a_budget_leaves(self):
         payment = entry(1, 0, basis=(None, None), payload=("payments", ((1, 4), (2, 1))))
@@ -187,7 +189,8 @@ class FinalStateTest(CircleCase):
             parameters=(1, 2), statutes=("a",), tree=(0,), appropriations=(7, 2),
         )
         payloads = (
-            ("seats", ((0, 1, None),)), ("parameters", ((1, 9),)), ("statute", ((1, (), ("b",)),)), ("appointment", None),
+            ("seats", ((0, 1, None),)), ("parameters", ((1, 9),)), ("statute", ((1, (), ("b",)),)),
+            ("appointment", None),
         )
         record = tuple(entry(number, basis=(None,), payload=payload) for number, payload in enumerate(payloads))
         self.same(final_state(charter, record), (((0, None, 2),), (1, 9), ("a", "b"), (7, 2), None))
@@ -228,9 +231,9 @@ class HistoryTest(CircleCase):
         slow = charter_of(
             entry_type(basis=((0, 2),), annulled=((0, 1),)), entry_type(basis=((1, 0),), annulled=((1, 1),)),
         )
-        record = tuple(
-            entry(0, number, basis=(None,), effect=None if number == 0 else ("annul", number - 1)) for number in range(3)
-        ) + (entry(1, 2, basis=(None,)), entry(1, 2, basis=(None,), effect=("annul", 3)))
+        record = chain(range(3), (None,)) + (
+            entry(1, 2, basis=(None,)), entry(1, 2, basis=(None,), effect=("annul", 3)),
+        )
         self.same(dependency_cycle(slow, record)[0], (3, 4))
         self.circular((0, 1, 2), was_valid, slow, record, 3, 0)
         self.circular((0, 1, 2), was_valid, slow, record, 4, 3)
