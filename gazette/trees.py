@@ -36,7 +36,8 @@ def node_totals(tree, own):
     totals = list(own)
     # A parent has a lower number than its children.
     for node in range(len(tree), 0, -1):
-        totals[tree[node - 1]] += totals[node]
+        parent = tree[node - 1]
+        totals[parent] = totals[parent] + totals[node]
     return tuple(totals)
 
 

@@ -34,6 +34,9 @@ NOT_USED = (
     ast.NamedExpr, ast.AnnAssign,
 )
 VIEWS = {"range", "zip", "enumerate", "reversed", "items", "keys", "values"}
+# What these calls give goes over what they are passed or is an item of it. Whether own functions hand on
+# what they are passed is not looked for.
+HANDING_ON = VIEWS - {"range"} | {"iter", "map", "min", "max", "get", "pop", "setdefault"}
 TAKERS = {"list", "tuple", "dict", "sorted", "sum", "any", "all", "enumerate", "zip", "min", "max", "len", "reversed"}
 
 
@@ -87,6 +90,75 @@ def docstrings(tree):
     kinds = (ast.Module, ast.FunctionDef, ast.ClassDef)
     bodies = [node.body for node in ast.walk(tree) if isinstance(node, kinds) and node.body]
     return [id(body[0].value) for body in bodies if isinstance(body[0], ast.Expr)]
+
+
+def changed_and_got(node):
+    """What `+=`, `|=`, `extend` or `update` changes, and a list of what it gets; two times None for other nodes."""
+    if isinstance(node, ast.AugAssign) and isinstance(node.op, (ast.Add, ast.BitOr)):
+        return node.target, [node.value]
+    if called(node) in ("extend", "update") and isinstance(node.func, ast.Attribute):
+        return node.func.value, node.args
+    return None, None
+
+
+def handed_on(value):
+    """The parts of a value that it goes over, or that it may be itself or an item of."""
+    if isinstance(value, (ast.Subscript, ast.Starred)):
+        return [value.value]
+    if isinstance(value, ast.IfExp):
+        return [value.body, value.orelse]
+    if isinstance(value, ast.BoolOp):
+        return value.values
+    if isinstance(value, ast.GeneratorExp):
+        return [part.iter for part in value.generators]
+    if called(value) in HANDING_ON:
+        owner = [value.func.value] if isinstance(value.func, ast.Attribute) else []
+        return owner + value.args
+    return []
+
+
+def sources_of_names(function):
+    """A dict with what a function assigns to each of its variables, and what it goes over by them."""
+    found = {}
+    for node in ast.walk(function):
+        if isinstance(node, ast.Assign):
+            targets, value = node.targets, node.value
+        elif isinstance(node, ast.For):
+            targets, value = [node.target], node.iter
+        else:
+            continue
+        for target in targets:
+            names = target.elts if isinstance(target, ast.Tuple) else [target]
+            for name in [name.id for name in names if isinstance(name, ast.Name)]:
+                found.setdefault(name, []).append(value)
+    return found
+
+
+def names_got(values, sources):
+    """The names of what values may be, or be items of, also by way of other variables."""
+    found, left = set(), list(values)
+    while left:
+        value = left.pop()
+        if not isinstance(value, (ast.Name, ast.Attribute)):
+            left.extend(handed_on(value))
+        elif ast.unparse(value) not in found:
+            found.add(ast.unparse(value))
+            left.extend(sources.get(ast.unparse(value), []))
+    return found
+
+
+def changes_by_themselves(tree):
+    """The rows in which `+=`, `|=`, `extend` or `update` gets what it changes, or an item of it."""
+    found = []
+    for function in [node for node in ast.walk(tree) if isinstance(node, ast.FunctionDef)]:
+        sources = sources_of_names(function)
+        for node in ast.walk(function):
+            changed, got = changed_and_got(node)
+            while isinstance(changed, ast.Subscript):
+                changed = changed.value
+            if changed is not None and ast.unparse(changed) in names_got(got, sources):
+                found.append(ast.unparse(node))
+    return found
 
 
 def for_each_file(check):
@@ -204,6 +276,33 @@ class LanguageTest(unittest.TestCase):
             for node in ast.walk(parsed(source)):
                 self.assertNotIsInstance(node, ast.Try)
                 self.assertNotIn(called(node), ("sort", "product", "combinations", "permutations"))
+
+    @for_each_file
+    def test_no_change_gets_what_it_changes(self, source, tree):
+        """The package has a class that is iterated over, so this holds in all of its files."""
+        self.assertEqual(changes_by_themselves(tree), [])
+
+    def test_changes_that_get_what_they_change_are_found(self):
+        for rows in (
+            "xs[ys[k - 1]] += xs[k]", "xs[0][1] += xs[k]", "xs += xs", "xs |= xs", "xs.extend(xs)", "xs.update(xs)",
+            "xs[k].extend(xs[0])", "xs += ys if k else xs", "xs += ys or xs", "xs.extend(xs[k:])",
+            "xs.extend(reversed(xs))", "xs += zip(ys, xs)", "xs.update(xs.items())", "xs.extend(x for x in xs)",
+            "xs[k] += max(xs)", "xs[k] += xs.get(0)", "self.xs += self.xs", "self.xs[k] += self.xs[0]",
+            "x = xs[0]; xs[k] += x", "x, y = xs; z = x; xs[k] += z", "for k, x in enumerate(xs): xs[k] += x",
+        ):
+            with self.subTest(rows=rows):
+                tree = parsed(f"def change(self, xs, ys, k):\n    {rows}")
+                self.assertEqual(len(changes_by_themselves(tree)), 1)
+
+    def test_changes_that_get_something_else_are_not_found(self):
+        for rows in (
+            "xs[k] = xs[k] + xs[0]", "xs[k] -= xs[0]", "xs[xs[k]] += ys[k]", "xs += list(xs)", "k += len(xs)",
+            "xs.extend(list(xs))", "xs.extend([x for x in xs])", "xs.append(xs)", "self.xs += self.ys",
+            "xs = list(ys); xs[k] += ys[0]", "for y in ys: xs[k] += y", "xs[k] += ys[xs[0]]",
+        ):
+            with self.subTest(rows=rows):
+                tree = parsed(f"def change(self, xs, ys, k):\n    {rows}")
+                self.assertEqual(changes_by_themselves(tree), [])
 
     @for_each_file
     def test_words(self, source, tree):
